@@ -1,0 +1,1 @@
+"""Playedlate: letters that are played again too late."""
