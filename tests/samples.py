@@ -1,7 +1,16 @@
 """Stores and values that several tests use. Each call makes new ones."""
 
+import itertools
+import random
+
 from playedlate import errors
+from playedlate.plans import Plan
+from playedlate.shelves import Shelf
 from playedlate.stores import Store
+
+# Five standings that look different behind some row do so behind one of four deeds or fewer.
+LONGEST_ROW = 4
+HOWS = ("done", "stops", "fails")
 
 
 def light():
@@ -38,6 +47,68 @@ def largest():
     return Store(standings, deeds, looks)
 
 
+def flag():
+    """Two standings that look different, and a deed that changes nothing the second time."""
+    return Store(["no", "yes"], {"mark": {"no": "yes", "yes": "yes"}}, {"no": "x", "yes": "y"})
+
+
+def small_stores():
+    """All stores of three standings with one deed and two looks."""
+    names = "abc"
+    for leads in itertools.product(names, repeat=3):
+        for looks in itertools.product("xy", repeat=3):
+            yield Store(list(names), {"go": dict(zip(names, leads))}, dict(zip(names, looks)))
+
+
+def mixed_stores():
+    """Stores of all sizes, the same ones in each run."""
+    dice = random.Random(7)
+    for _ in range(150):
+        names = list("edcba")[:dice.randint(1, 5)]
+        deeds = {
+            deed: {name: dice.choice(names) for name in names}
+            for deed in "pqrs"[:dice.randint(1, 4)]
+        }
+        yield Store(names, deeds, {name: dice.choice("xxxy") for name in names})
+
+
+def rows_of(store):
+    """All rows of deeds that matter, the shortest first."""
+    for many in range(LONGEST_ROW + 1):
+        for row in itertools.product(store.deeds, repeat=many):
+            yield list(row)
+
+
+def all_plans():
+    """A plan of each way, each set of guards and each number of tries."""
+    guards = [(), ("once",), ("stamp",), ("once", "stamp")]
+    for way, some, tries in itertools.product(["letter", "key", "all"], guards, [1, 2, 3]):
+        yield Plan(way, some, tries=tries)
+
+
+def late():
+    """The row of events of the document: what was set late stays set."""
+    return [("send", "k", "set"), ("send", "k", "clear"), ("work", "fails"), ("work", "done"), ("replay", "done")]
+
+
+def no_events():
+    """Values that look like events of the store light, and are none."""
+    return [
+        ["send", "k", "set"], ["work", "done"], ("work", ("done",)), (("work", "done"),), [("work", "done")],
+        "work done", "work", ("work",), ("replay",), ("done", "work"), ("work", "done", "done"), ("send",),
+        ("send", "k"), ("send", "set"), ("send", "k", "set", "set"), ("send", "set", "k"), ("send", "k", "next"),
+        ("send", "k", "off"), ("send", "k", "se"), ("send", "k", ""), ("send", "k", None), ("send", "k", ["set"]),
+        ("sent", "k", "set"), ("work", "k", "set"), ("replay", "k", "set"), (None, "k", "set"), (["send"], "k", "set"),
+        ("send", "", "set"), ("send", "K", "set"), ("send", "abcdefghi", "set"), ("send", "k1", "set"),
+        ("send", "k\n", "set"), ("send", None, "set"), ("send", 0, "set"), ("send", ["k"], "set"),
+        ("send", ("k",), "set"), ("send", {}, "set"), ("send", light(), "set"), ("send", "k", light()),
+        ("work", "fail"), ("work", "Done"), ("work", "done "), ("work", ""), ("work", None), ("work", 0),
+        ("work", True), ("work", ["done"]), ("work", {}), ("work", light()), ("play", "done"), ("Work", "done"),
+        ("", "done"), (None, "done"), (["work"], "done"), ({}, {}), (light(), "done"), (True, "done"),
+        {"work": "done"}, {"send": "k", "k": "set"}, ("work", "done", None), (None, None, None),
+    ]
+
+
 def nested(value, wrap):
     """The value in 30 wraps."""
     for _ in range(30):
@@ -56,11 +127,14 @@ def plain_values():
 
 def wrapped_values():
     """Lists, tuples, dicts and objects of all kinds, none of them a row of different names."""
+    shelf = Shelf(light(), Plan("key"))
+    shelf.do(("send", "off", "set"))
     return [
         (), [], {}, {"off": "on"}, [None], (None, True), [1, 2, 3], ["off", 1], ("off", "off"),
         {1: 2, None: [], (1, 2): {}}, {True: "off"}, [["off"], {"set": "on"}],
         nested("off", lambda x: [x]), nested("off", lambda x: (x,)), nested("off", lambda x: {"off": x}),
         ["off"] * 100000, light(), [light()], {"off": light()},
+        Plan("all"), (Plan("letter", ["once"], tries=2),), shelf, [shelf, shelf.fork()], shelf.letter(0) * 2,
         errors.LateError(), errors.NoDeed(0), errors.BadDeeds({"set": {}}), {errors.NoDeed(0): "off"},
     ]
 

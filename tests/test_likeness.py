@@ -1,30 +1,18 @@
 """Points [1] and [3]: standings that are alike, and rows that tell others apart."""
 
-import inspect
 import itertools
-import random
 import unittest
 
 from playedlate import likeness
 from playedlate.errors import NoStanding
 from playedlate.likeness import alike, classes, parting
 from playedlate.stores import Store
-from tests.samples import largest, light, smallest, three, wrong_values
-
-# Five standings that look different behind some row do so behind one of four deeds or fewer.
-LONGEST_ROW = 4
-
+from tests.cases import Case
+from tests.samples import largest, light, mixed_stores, rows_of, small_stores, smallest, three, wrong_values
 
 def pair():
     """Two standings that are alike though they are not equal."""
     return Store(["a", "b"], {"go": {"a": "b", "b": "a"}}, {"a": "x", "b": "x"})
-
-
-def rows_of(store):
-    """All rows of deeds that matter, the shortest first."""
-    for many in range(LONGEST_ROW + 1):
-        for row in itertools.product(store.deeds, repeat=many):
-            yield list(row)
 
 
 def parts(store, row, first, second):
@@ -39,27 +27,7 @@ def least_length(store, first, second):
     return None
 
 
-def small_stores():
-    """All stores of three standings with one deed and two looks."""
-    names = "abc"
-    for leads in itertools.product(names, repeat=3):
-        for looks in itertools.product("xy", repeat=3):
-            yield Store(list(names), {"go": dict(zip(names, leads))}, dict(zip(names, looks)))
-
-
-def mixed_stores():
-    """Stores of all sizes, the same ones in each run."""
-    dice = random.Random(7)
-    for _ in range(150):
-        names = list("edcba")[:dice.randint(1, 5)]
-        deeds = {
-            deed: {name: dice.choice(names) for name in names}
-            for deed in "pqrs"[:dice.randint(1, 4)]
-        }
-        yield Store(names, deeds, {name: dice.choice("xxxy") for name in names})
-
-
-class LikenessTest(unittest.TestCase):
+class LikenessTest(Case):
     def check_pair(self, store, first, second):
         least = least_length(store, first, second)
         row = parting(store, first, second)
@@ -90,9 +58,7 @@ class LikenessTest(unittest.TestCase):
         self.assertEqual(classes(pair()), [["a", "b"]])
 
     def test_functions_are_defined_in_their_file(self):
-        for function in [parting, alike, classes]:
-            self.assertEqual(function.__module__, "playedlate.likeness")
-            self.assertTrue(inspect.isfunction(vars(likeness)[function.__name__]))
+        self.check_functions(likeness, ["parting", "alike", "classes"])
 
     def test_arguments_by_name(self):
         self.assertEqual(parting(second="b", first="a", store=three()), ["next"])

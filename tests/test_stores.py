@@ -1,25 +1,17 @@
 """Points [1] and [2]: stores, what they take, what they tell and what they raise."""
 
 import copy
-import inspect
 import itertools
 import unittest
 
 from playedlate.errors import BadDeeds, BadLooks, BadStandings, NoDeed, NoStanding
 from playedlate.stores import Store
+from tests.cases import Case
 from tests.samples import largest, light, plain_values, smallest, three, wrapped_values, wrong_values
 
 STANDINGS = ["off", "on"]
 DEEDS = {"set": {"off": "on", "on": "on"}, "clear": {"off": "off", "on": "off"}}
 LOOKS = {"off": "dark", "on": "bright"}
-
-
-class Case(unittest.TestCase):
-    def raised(self, error, call, *args, **named):
-        with self.assertRaises(error) as caught:
-            call(*args, **named)
-        self.assertIs(type(caught.exception), error)
-        return caught.exception
 
 
 class ExamplesTest(Case):
@@ -37,11 +29,8 @@ class ExamplesTest(Case):
 
 class InterfaceTest(Case):
     def test_the_class_defines_what_is_listed(self):
-        self.assertEqual(Store.__module__, "playedlate.stores")
-        for name in ["__init__", "__eq__", "look", "lead", "come"]:
-            self.assertTrue(inspect.isfunction(vars(Store)[name]), name)
-        for name in ["standings", "deeds"]:
-            self.assertIsInstance(vars(Store)[name], property)
+        methods = ["__init__", "__eq__", "look", "lead", "come"]
+        self.check_class(Store, "playedlate.stores", methods, ["standings", "deeds"])
 
     def test_arguments_by_name(self):
         store = Store(looks=LOOKS, deeds=DEEDS, standings=STANDINGS)
