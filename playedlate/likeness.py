@@ -1,24 +1,14 @@
 """Which standings of a store are alike, and what tells the others apart."""
 
+from playedlate.reach import row_where
+
 
 def parting(store, first, second):
     """A shortest row of deeds behind which two standings look different, or None."""
     # Asked for ahead of all else, so that the first wrong standing is the one named.
     store.look(first)
     store.look(second)
-    rows = {(first, second): []}
-    waiting = [(first, second)]
-    while waiting:
-        left, right = waiting.pop(0)
-        row = rows[(left, right)]
-        if store.look(left) != store.look(right):
-            return row
-        for deed in store.deeds:
-            behind = (store.lead(left, [deed]), store.lead(right, [deed]))
-            if behind not in rows:
-                rows[behind] = row + [deed]
-                waiting.append(behind)
-    return None
+    return row_where(store, first, second, lambda left, right: store.look(left) != store.look(right))
 
 
 def alike(store, first, second):

@@ -1,4 +1,4 @@
-"""Which standings can come from one, and by which rows of deeds."""
+"""Which standings can come from others, and by which rows of deeds."""
 
 
 def rows_from(store, standing):
@@ -13,3 +13,20 @@ def rows_from(store, standing):
                 rows[behind] = rows[place] + [deed]
                 waiting.append(behind)
     return rows
+
+
+def row_where(store, first, second, wanted):
+    """A shortest row that leads two standings to such as are wanted together, or None."""
+    rows = {(first, second): []}
+    waiting = [(first, second)]
+    while waiting:
+        left, right = waiting.pop(0)
+        row = rows[(left, right)]
+        if wanted(left, right):
+            return row
+        for deed in store.deeds:
+            behind = (store.lead(left, [deed]), store.lead(right, [deed]))
+            if behind not in rows:
+                rows[behind] = row + [deed]
+                waiting.append(behind)
+    return None

@@ -26,3 +26,19 @@ class Case(unittest.TestCase):
             self.assertTrue(inspect.isfunction(vars(kind)[name]), name)
         for name in properties:
             self.assertIsInstance(vars(kind)[name], property)
+
+
+class ShownCase(Case):
+    """Checks of rows of deeds that show something."""
+
+    def check_rows(self, store, rows, many):
+        self.assertIs(type(rows), tuple)
+        self.assertEqual(len(rows), many)
+        for row in rows:
+            self.assertIs(type(row), list)
+            for deed in row:
+                self.assertIn(deed, store.deeds)
+
+    def check_parted(self, store, one, other):
+        start = store.standings[0]
+        self.assertNotEqual(store.look(store.lead(start, one)), store.look(store.lead(start, other)))

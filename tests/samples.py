@@ -52,12 +52,40 @@ def flag():
     return Store(["no", "yes"], {"mark": {"no": "yes", "yes": "yes"}}, {"no": "x", "yes": "y"})
 
 
+def first_wins():
+    """Deeds that nothing changes once one of them was done, which do not change places."""
+    stay = {"l": "l", "r": "r"}
+    return Store(
+        ["o", "l", "r"],
+        {"left": {"o": "l", **stay}, "right": {"o": "r", **stay}},
+        {"o": "none", "l": "left", "r": "right"},
+    )
+
+
+def hidden():
+    """A deed, to turn, that does nothing ahead of the first open, and is seen only behind the first close."""
+    ended = {"d": "d", "e": "e"}
+    deeds = {
+        "turn": {"a": "a", "b": "c", "c": "b", **ended},
+        "open": {"a": "b", "b": "b", "c": "c", **ended},
+        "close": {"a": "a", "b": "d", "c": "e", **ended},
+    }
+    return Store(list("abcde"), deeds, {"a": "x", "b": "x", "c": "x", "d": "x", "e": "y"})
+
+
 def small_stores():
     """All stores of three standings with one deed and two looks."""
     names = "abc"
     for leads in itertools.product(names, repeat=3):
         for looks in itertools.product("xy", repeat=3):
             yield Store(list(names), {"go": dict(zip(names, leads))}, dict(zip(names, looks)))
+
+
+def two_deeds():
+    """All stores of two standings that look different, with two deeds."""
+    for leads in itertools.product("ab", repeat=4):
+        deeds = {"p": dict(zip("ab", leads[:2])), "q": dict(zip("ab", leads[2:]))}
+        yield Store(["a", "b"], deeds, {"a": "x", "b": "y"})
 
 
 def mixed_stores():

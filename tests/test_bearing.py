@@ -6,19 +6,9 @@ from playedlate import bearing
 from playedlate.bearing import again, change_places, left_out, twice
 from playedlate.errors import NoDeed
 from playedlate.stores import Store
-from tests.cases import Case
-from tests.samples import flag, largest, light, mixed_stores, rows_of, small_stores, smallest, three, wrong_values
-
-
-def outlooks(store):
-    """For each standing what is seen behind all rows that matter: alike ones have the same."""
-    rows = list(rows_of(store))
-    return {name: [store.look(store.lead(name, row)) for row in rows] for name in store.standings}
-
-
-def reached(store, standing):
-    """The standings to which rows of deeds lead one."""
-    return sorted({store.lead(standing, row) for row in rows_of(store)})
+from tests.cases import Case, ShownCase
+from tests.samples import flag, largest, light, mixed_stores, small_stores, smallest, three, wrong_values
+from tests.search import outlooks, reached
 
 
 def bears_change(store, seen, first, second):
@@ -51,19 +41,7 @@ def bears_leaving_out(store, seen, deed):
     )
 
 
-class ShownCase(Case):
-    def check_rows(self, store, rows, many):
-        self.assertIs(type(rows), tuple)
-        self.assertEqual(len(rows), many)
-        for row in rows:
-            self.assertIs(type(row), list)
-            for deed in row:
-                self.assertIn(deed, store.deeds)
-
-    def check_parted(self, store, one, other):
-        start = store.standings[0]
-        self.assertNotEqual(store.look(store.lead(start, one)), store.look(store.lead(start, other)))
-
+class BearingCase(ShownCase):
     def check_change(self, store, seen, first, second):
         rows = change_places(store, first, second)
         if bears_change(store, seen, first, second):
@@ -111,7 +89,7 @@ class ShownCase(Case):
             self.check_left_out(store, seen, deed)
 
 
-class BearingTest(ShownCase):
+class BearingTest(BearingCase):
     def test_examples(self):
         self.assertIsNone(change_places(light(), "set", "set"))
         self.assertEqual(len(change_places(light(), "set", "clear")), 2)
